@@ -1,0 +1,1 @@
+"""Stalestack: a pile shared by hands through compare and exchange alone."""
