@@ -6,28 +6,74 @@ import unittest
 
 PACKAGE = pathlib.Path(__file__).resolve().parent.parent / "stalestack"
 
-INTERFACE = {
-    "errors.py": ("PileError", "BadPile", "BadDeed", "BadRule", "NoHand"),
-    "deeds.py": ("serial",),
+FUNCTIONS = {
+    "deeds.py": {"serial": ["values", "deeds"]},
+    "weaving.py": {
+        "played": ["values", "programs", "rule", "weaving"],
+        "whole": ["values", "programs", "rule", "weaving"],
+    },
+    "staleness.py": {
+        "stale": ["values", "programs", "rule"],
+        "safe_counts": ["values", "programs"],
+        "least_marks": ["values", "programs"],
+    },
+}
+
+CLASSES = {
+    "errors.py": {
+        "PileError": {},
+        "BadPile": {},
+        "BadDeed": {},
+        "BadRule": {},
+        "NoHand": {},
+    },
+    "machine.py": {
+        "Machine": {
+            "__init__": ["self", "values", "programs", "rule"],
+            "turn": ["self", "hand"],
+            "answers": ["self", "hand"],
+            "marked": ["self", "hand"],
+            "order": ["self"],
+            "top_now": ["self"],
+            "nexts": ["self"],
+            "free": ["self"],
+            "pile": ["self"],
+            "pile_values": ["self"],
+            "is_stale": ["self"],
+            "is_done": ["self"],
+        },
+    },
 }
 
 
-def defined_in(path):
-    tree = ast.parse(path.read_text(encoding="ascii"))
-    return [part.name for part in tree.body if isinstance(part, (ast.ClassDef, ast.FunctionDef))]
+def defined_in(body, kind):
+    """The functions or classes that are defined in the body, by their names."""
+    return {part.name: part for part in body if isinstance(part, kind)}
+
+
+def arguments(function):
+    return [arg.arg for arg in function.args.args]
+
+
+def body_of(file):
+    return ast.parse((PACKAGE / file).read_text(encoding="ascii")).body
 
 
 class LayoutTest(unittest.TestCase):
-    def test_each_name_is_defined_in_its_own_file(self):
-        for file, names in INTERFACE.items():
-            for name in names:
+    def test_each_function_is_defined_in_its_own_file_with_its_arguments(self):
+        for file, functions in FUNCTIONS.items():
+            found = defined_in(body_of(file), ast.FunctionDef)
+            for name, names in functions.items():
                 with self.subTest(file=file, name=name):
-                    self.assertEqual(defined_in(PACKAGE / file).count(name), 1)
+                    self.assertEqual(arguments(found[name]), names)
 
-    def test_arguments_have_the_names_of_the_interface(self):
-        tree = ast.parse((PACKAGE / "deeds.py").read_text(encoding="ascii"))
-        found = [part for part in tree.body if getattr(part, "name", "") == "serial"]
-        self.assertEqual([arg.arg for arg in found[0].args.args], ["values", "deeds"])
+    def test_each_class_is_defined_in_its_own_file_with_its_methods(self):
+        for file, classes in CLASSES.items():
+            found = defined_in(body_of(file), ast.ClassDef)
+            for name, methods in classes.items():
+                with self.subTest(file=file, name=name):
+                    own = defined_in(found[name].body, ast.FunctionDef)
+                    self.assertEqual({method: arguments(own[method]) for method in methods}, methods)
 
     def test_the_package_holds_python_files_alone(self):
         for path in PACKAGE.iterdir():
